@@ -1,0 +1,1 @@
+"""Lastwill: boxes that are held, looked at, and given up."""

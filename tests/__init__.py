@@ -1,0 +1,1 @@
+"""Tests of the program, for python3 -m unittest."""
