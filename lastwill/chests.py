@@ -1,4 +1,8 @@
-"""Chests: boxes with their slots, the hands, pairs, and wills as they are given."""
+"""Chests: boxes with their slots, the hands, pairs, and wills as they are given.
+
+The words of a refusal tell no number that was handed in: Python does not write numbers of thousands of figures, and
+would raise an error of its own instead of the refusal.
+"""
 
 from lastwill.errors import NoBox, NoHand, NoPair, NoSlot, NoWill, TooMany
 
@@ -38,7 +42,7 @@ class Chest:
     def make(self, size):
         """A new box of this size, in the hands; its number."""
         if size < 0 or size > LARGEST_SIZE:
-            raise NoSlot(f"no box is of size {size}")
+            raise NoSlot(f"a box has from 0 to {LARGEST_SIZE} slots")
         if len(self.kept_boxes) >= MOST_BOXES:
             raise TooMany(f"there are {MOST_BOXES} boxes")
         box = self.next_box
@@ -71,13 +75,14 @@ class Chest:
 
     def take(self, box):
         """The box is in the hands from now on, also where it was there already."""
-        self._kept_box(box).in_hands = True
+        kept = self._kept_box(box)
+        kept.in_hands = True
 
     def drop(self, box):
         """The box is not in the hands from now on."""
         kept = self._kept_box(box)
         if not kept.in_hands:
-            raise NoHand(f"box {box} is not in the hands")
+            raise NoHand("the box is not in the hands")
         kept.in_hands = False
 
     def hands(self):
@@ -98,7 +103,7 @@ class Chest:
     def unpair(self, pair):
         """The pair goes."""
         if pair not in self.kept_pairs:
-            raise NoPair(f"there is no pair {pair}")
+            raise NoPair("there is no such pair")
         del self.kept_pairs[pair]
 
     def pairs(self):
@@ -112,7 +117,7 @@ class Chest:
             raise NoWill(f"a will has at most {MOST_DEEDS} deeds")
         for deed in deeds:
             if has_number_below_0(deed):
-                raise NoWill(f"a number in {deed} is below 0")
+                raise NoWill("a number in a deed is below 0")
         kept.deeds = list(deeds)
 
     def will(self, box):
@@ -122,12 +127,12 @@ class Chest:
     def _kept_box(self, box):
         """What is kept of the box, which must be there."""
         if box not in self.kept_boxes:
-            raise NoBox(f"there is no box {box}")
+            raise NoBox("there is no such box")
         return self.kept_boxes[box]
 
     def _slots_with(self, box, slot):
         """The slots of the box, which must be there and have this slot."""
         slots = self._kept_box(box).slots
         if slot < 0 or slot >= len(slots):
-            raise NoSlot(f"box {box} has no slot {slot}")
+            raise NoSlot("the box has no such slot")
         return slots

@@ -29,6 +29,13 @@ class Form(unittest.TestCase):
                     with self.subTest((path.name, node.name)):
                         self.assertLessEqual(node.end_lineno - node.lineno + 1, 40)
 
+    def test_attributes_are_assigned_through_names(self):
+        for path in FILES:
+            for node in ast.walk(ast.parse(path.read_text(encoding="utf-8"))):
+                if isinstance(node, ast.Attribute) and not isinstance(node.ctx, ast.Load):
+                    with self.subTest((path.name, node.lineno)):
+                        self.assertIsInstance(node.value, ast.Name)
+
     def test_imports_are_of_names_of_the_package(self):
         for path in FILES:
             for node in ast.walk(ast.parse(path.read_text(encoding="utf-8"))):
