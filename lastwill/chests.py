@@ -73,6 +73,15 @@ class Chest:
         """None where the slot is empty, else a tuple (other, holds)."""
         return self._slots_with(box, slot)[slot]
 
+    def tellings(self):
+        """The list of tuples (box, slot, other, holds) of the slots that are not empty, by boxes and slots."""
+        return [
+            (box, slot, *told)
+            for box in self.boxes()
+            for slot, told in enumerate(self.kept_boxes[box].slots)
+            if told is not None
+        ]
+
     def take(self, box):
         """The box is in the hands from now on, also where it was there already."""
         kept = self._kept_box(box)
@@ -123,6 +132,17 @@ class Chest:
     def will(self, box):
         """The list of the deeds of the box's will, empty where it has none."""
         return list(self._kept_box(box).deeds)
+
+    def give_up(self, boxes):
+        """These boxes, which must be there, are none any more: no slot tells them, and no pair is of them."""
+        for box in boxes:
+            del self.kept_boxes[box]
+        for box, slot, other, _ in self.tellings():
+            if other not in self.kept_boxes:
+                self.empty(box, slot)
+        for pair, *ends in self.pairs():
+            if any([end not in self.kept_boxes for end in ends]):
+                self.unpair(pair)
 
     def _kept_box(self, box):
         """What is kept of the box, which must be there."""

@@ -3,6 +3,7 @@
 import unittest
 
 from lastwill.chests import Chest
+from lastwill.errors import NoBox
 
 
 def picture(chest):
@@ -38,6 +39,27 @@ def busy_chest():
     return chest
 
 
+def chest_with(sizes, hands=(), holds=(), looks=(), pairs=(), wills=()):
+    """A chest with boxes of these sizes.
+
+    Of them just `hands` are in the hands; `holds` and `looks` are rows (box, slot, other), `pairs` rows
+    (home, key, value), `wills` rows (box, deeds).
+    """
+    chest = chest_of(*sizes)
+    for box in chest.boxes():
+        if box not in hands:
+            chest.drop(box)
+    for box, slot, other in holds:
+        chest.put(box, slot, other, True)
+    for box, slot, other in looks:
+        chest.put(box, slot, other, False)
+    for row in pairs:
+        chest.pair(*row)
+    for box, deeds in wills:
+        chest.bequeath(box, deeds)
+    return chest
+
+
 class ChestCase(unittest.TestCase):
     """A case that can ask for refusals."""
 
@@ -48,3 +70,10 @@ class ChestCase(unittest.TestCase):
             getattr(chest, method)(*given)
         self.assertIs(type(caught.exception), error)
         self.assertEqual(picture(chest), before)
+
+    def assert_no_box(self, chest, box):
+        """The chest tells nothing of the box any more."""
+        self.assertNotIn(box, chest.boxes())
+        self.assertNotIn(box, chest.hands())
+        for method in ("size", "take", "drop", "will"):
+            self.assert_refused(NoBox, chest, method, box)

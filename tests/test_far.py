@@ -12,7 +12,7 @@ class Far(ChestCase):
     def assert_each_refused(self, error, method, *given):
         """The method refuses with this class where the far number stands in the place of None."""
         for side, far in FAR.items():
-            with self.subTest((method, side, given)):
+            with self.subTest((method, side)):
                 chest = busy_chest()
                 self.assert_refused(error, chest, method, *[far if part is None else part for part in given])
 

@@ -1,9 +1,9 @@
-"""The interface of lastwill/chests.py: its names and arguments, in the class itself."""
+"""The interface: its names and arguments, each where DOC.md lists it."""
 
 import inspect
 import unittest
 
-from lastwill import chests
+from lastwill import chests, notes, reaching, sweeping
 
 METHODS = {
     "make": ["size"],
@@ -21,6 +21,14 @@ METHODS = {
     "bequeath": ["box", "deeds"],
     "will": ["box"],
 }
+FUNCTIONS = (
+    (reaching, "come_to", ["chest"]),
+    (reaching, "lost", ["chest"]),
+    (sweeping, "order_of_wills", ["chest"]),
+    (sweeping, "sweep", ["chest"]),
+    (notes, "written", ["chest"]),
+    (notes, "read", ["text"]),
+)
 
 
 class Interface(unittest.TestCase):
@@ -36,6 +44,13 @@ class Interface(unittest.TestCase):
                 self.assertIn(name, vars(chests.Chest))
                 found = inspect.signature(vars(chests.Chest)[name])
                 self.assertEqual(list(found.parameters), ["self"] + arguments)
+
+    def test_each_function_is_defined_in_its_file_with_its_arguments(self):
+        for module, name, arguments in FUNCTIONS:
+            with self.subTest(name):
+                function = getattr(module, name)
+                self.assertEqual(function.__module__, module.__name__)
+                self.assertEqual(list(inspect.signature(function).parameters), arguments)
 
 
 if __name__ == "__main__":
